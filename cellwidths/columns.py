@@ -1,7 +1,7 @@
-"""The widths of a table's columns with which it has the fewest lines."""
+"""The widths of a table's columns with which it has the fewest lines, and how high and wide it is with given ones."""
 
 NOT_AS_TOLD = -71
-NO_ROOM = -33
+MAY_NOT_BE = -33
 
 MOST_COLUMNS = 4
 MOST_ROWS = 6
@@ -20,13 +20,26 @@ def best(columns, most, table):
     if not is_as_told(columns, cells):
         return [NOT_AS_TOLD]
     by_column = split_by_column(columns, cells)
-    room = most - BESIDE_A_COLUMN * columns - BESIDE_A_TABLE
-    ways = ways_within(by_column, room)
+    ways = ways_within(by_column, most - beside_widths(columns))
     if len(ways) == 0:
-        return [NO_ROOM]
+        return [MAY_NOT_BE]
     # A way begins with its total width, so equal heights are decided by that, then by the first column that differs.
     lowest = min([(sum(heights), way) for heights, way in ways.items()])
     return [lowest[0]] + list(lowest[1][1])
+
+
+def high(widths, table):
+    """Answer how high the table is with these widths, then how wide; or a refusal."""
+    columns = len(widths)
+    cells = cut_into_cells(table)
+    if not is_as_told(columns, cells):
+        return [NOT_AS_TOLD]
+    heights = tuple([0] * (len(cells) // columns))
+    for width, column in zip(widths, split_by_column(columns, cells)):
+        if width < least_width(column):
+            return [MAY_NOT_BE]
+        heights = higher_of(heights, heights_of_column(column, width))
+    return [sum(heights), sum(widths) + beside_widths(columns)]
 
 
 def cut_into_cells(table):
@@ -86,6 +99,11 @@ def word_lengths(cell):
     return lengths
 
 
+def beside_widths(columns):
+    """Give how much wider a table is than the widths of its columns together."""
+    return BESIDE_A_COLUMN * columns + BESIDE_A_TABLE
+
+
 def least_width(column):
     """Give the least width that a column of such cells may have."""
     return max([1] + [max(lengths, default=1) for lengths in column])
@@ -111,11 +129,16 @@ def lines_of_cell(lengths, width):
     return lines
 
 
+def heights_of_column(column, width):
+    """Give how high each cell of a column is, with a width that the column may have."""
+    return tuple([lines_of_cell(lengths, width) for lengths in column])
+
+
 def width_choices(column):
     """Give the widths of a column that are worth a look, narrowest first, each with how high its cells are then."""
     choices = []
     for width in range(least_width(column), widest_needed(column) + 1):
-        heights = tuple([lines_of_cell(lengths, width) for lengths in column])
+        heights = heights_of_column(column, width)
         # A width that makes no cell lower than a narrower one does can't be among the best.
         if len(choices) == 0 or choices[-1][1] != heights:
             choices.append((width, heights))

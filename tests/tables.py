@@ -1,6 +1,8 @@
-"""What the tests share: tables from texts, and the best widths by going through all that may be."""
+"""What the tests share: tables from texts, what they are like with widths, and the best widths by a look at all."""
 
 import itertools
+
+LARGEST = 4294967295
 
 
 def as_table(rows):
@@ -36,6 +38,8 @@ def broken(text, width):
 
 def heights_of_column(rows, column, width):
     """How high each cell of a column is; None where the column may not have that width."""
+    if width < 1:
+        return None
     heights = []
     for row in rows:
         lines = broken(row[column], width)
@@ -58,6 +62,14 @@ def height_with(rows, widths):
             return None
         by_column.append(heights)
     return sum(max(of_row) for of_row in zip(*by_column))
+
+
+def high_by_lines(rows, widths):
+    """The answer of high, as "A table" says it, with every line written out."""
+    height = height_with(rows, widths)
+    if height is None:
+        return [-33]
+    return [height, wide(widths)]
 
 
 def widths_that_may_be(columns, rows):
@@ -88,3 +100,25 @@ def best_by_trial(columns, most, rows):
     if found is None:
         return [-33]
     return [found[0]] + list(found[2])
+
+
+def random_rows(chance, columns, count, size):
+    rows = []
+    for row in range(count):
+        rows.append([random_text(chance, chance.randint(0, size)) for column in range(columns)])
+    return rows
+
+
+def random_text(chance, size):
+    blanks = chance.choice((1, 2, 4))
+    return "".join(chance.choice("abcd~!" + " " * blanks) for sign in range(size))
+
+
+class Unchanged(list):
+    """A list that lets nothing change it, not for a while either."""
+
+    def refuse(self, *given, **named):
+        raise AssertionError("a list that was handed in is being changed")
+
+    append = extend = insert = pop = remove = clear = sort = reverse = refuse
+    __setitem__ = __delitem__ = __iadd__ = __imul__ = refuse

@@ -5,7 +5,7 @@ import random
 import unittest
 
 from cellwidths.columns import best
-from tables import as_table, best_by_trial, height_with, wide
+from tables import as_table, best_by_trial, height_with, random_rows, wide
 
 
 class WrittenAnswers(unittest.TestCase):
@@ -123,18 +123,6 @@ class WhatHolds(unittest.TestCase):
                     turned = rows[turn:] + rows[:turn]
                     self.assertEqual(best(columns, most, as_table(turned)), answer)
                 self.assertEqual(best(columns, most, as_table(rows[::-1])), answer)
-
-
-def random_rows(chance, columns, count, size):
-    rows = []
-    for row in range(count):
-        rows.append([random_text(chance, chance.randint(0, size)) for column in range(columns)])
-    return rows
-
-
-def random_text(chance, size):
-    blanks = chance.choice((1, 2, 4))
-    return "".join(chance.choice("abcd~!" + " " * blanks) for sign in range(size))
 
 
 if __name__ == "__main__":

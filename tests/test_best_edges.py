@@ -6,9 +6,7 @@ import itertools
 import unittest
 
 from cellwidths.columns import best
-from tables import as_table, best_by_trial
-
-LARGEST = 4294967295
+from tables import LARGEST, Unchanged, as_table, best_by_trial
 
 
 class Edges(unittest.TestCase):
@@ -194,16 +192,6 @@ class Largest(unittest.TestCase):
         self.assertEqual(best(0, 99, [0] * 4000), [-71])
         self.assertEqual(best(4, LARGEST, as_table([["a b c d e f g h i j k l "] * 4] * 40)), [-71])
         self.assertEqual(best(3, LARGEST, ([255] + [97] * 255) * 15), [-71])
-
-
-class Unchanged(list):
-    """A list that lets nothing change it, not for a while either."""
-
-    def refuse(self, *given, **named):
-        raise AssertionError("a list that was handed in is being changed")
-
-    append = extend = insert = pop = remove = clear = sort = reverse = refuse
-    __setitem__ = __delitem__ = __iadd__ = __imul__ = refuse
 
 
 class LeftAsItWas(unittest.TestCase):
